@@ -1,0 +1,1 @@
+"""Embroidery: which rows of stitches touch. The calls stand in threadrow.desk."""
