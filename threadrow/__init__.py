@@ -1,1 +1,4 @@
-"""Embroidery: which rows of stitches touch. The calls stand in threadrow.desk."""
+"""Embroidery: which rows of stitches touch, and which shapes must come before which.
+
+The calls stand in threadrow.desk.
+"""

@@ -1,0 +1,106 @@
+"""What several tests share: rows, how to change them, and another way of telling what touches."""
+
+import contextlib
+import io
+from fractions import Fraction
+from unittest import mock
+
+FARTHEST = 30000
+
+TURNS = [
+    lambda x, y: (-y, x),
+    lambda x, y: (-x, -y),
+    lambda x, y: (y, -x),
+]
+
+
+def row_of(holes):
+    return [number for hole in holes for number in hole]
+
+
+def holes_of(row):
+    return list(zip(row[0::2], row[1::2]))
+
+
+def from_other_end(row):
+    return row_of(reversed(holes_of(row)))
+
+
+def changed(row, change):
+    return row_of(change(x, y) for x, y in holes_of(row))
+
+
+def lies_on(point, start, end):
+    """Whether start + part * (end - start) is the point for a part from 0 to 1."""
+    if start == end:
+        return point == start
+    axis = 0 if start[0] != end[0] else 1
+    part = Fraction(point[axis] - start[axis], end[axis] - start[axis])
+    there = tuple(start[k] + part * (end[k] - start[k]) for k in (0, 1))
+    return 0 <= part <= 1 and there == tuple(point)
+
+
+def crossing_of(a, b, c, d):
+    """The one point that both lines share, by Cramer's rule; None where there isn't just one."""
+    first = (b[1] - a[1], a[0] - b[0])
+    second = (d[1] - c[1], c[0] - d[0])
+    whole = first[0] * second[1] - second[0] * first[1]
+    if whole == 0:
+        return None
+    level = first[0] * a[0] + first[1] * a[1]
+    other = second[0] * c[0] + second[1] * c[1]
+    x = Fraction(level * second[1] - other * first[1], whole)
+    y = Fraction(first[0] * other - second[0] * level, whole)
+    return (x, y)
+
+
+def stitches_share_a_point(a, b, c, d):
+    """Told another way than the program's: one of five points that could be common lies on both."""
+    points = [a, b, c, d]
+    crossing = crossing_of(a, b, c, d)
+    if crossing is not None:
+        points.append(crossing)
+    return any(lies_on(point, a, b) and lies_on(point, c, d) for point in points)
+
+
+def rows_share_a_point(one, other):
+    ways = []
+    for row in (one, other):
+        holes = holes_of(row)
+        ways.append(list(zip(holes, holes[1:])) or [(holes[0], holes[0])])
+    return any(stitches_share_a_point(*way, *another) for way in ways[0] for another in ways[1])
+
+
+def drawn_rows(how_many):
+    """Rows of 1 to 7 holes on a small field, the same ones at each run."""
+    state = 12345
+    rows = []
+    for number in range(how_many):
+        row = []
+        for place in range(2 * (1 + number % 7)):
+            state = (state * 1103515245 + 12345) % 2147483648
+            row.append((state >> 16) % 13 - 6)
+        rows.append(row)
+    return rows
+
+
+class Untouchable(list):
+    """A list that tells each try to change it."""
+
+    def refuse(self, *args, **kwargs):
+        raise AssertionError("what is handed in was changed")
+
+    append = extend = insert = pop = remove = clear = sort = reverse = refuse
+    __setitem__ = __delitem__ = __iadd__ = __imul__ = refuse
+
+
+def told_aside(call):
+    """What a call prints, and which of the ways to print, read or import it goes."""
+    names = ["print", "open", "input", "__import__"]
+    out, err = io.StringIO(), io.StringIO()
+    with contextlib.ExitStack() as stack:
+        stack.enter_context(contextlib.redirect_stdout(out))
+        stack.enter_context(contextlib.redirect_stderr(err))
+        used = [stack.enter_context(mock.patch("builtins." + name)) for name in names]
+        call()
+    return out.getvalue() + err.getvalue(), [name for name, way in zip(names, used) if way.called]
