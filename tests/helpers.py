@@ -1,7 +1,8 @@
-"""What several tests share: rows, how to change them, and another way of telling what touches."""
+"""What several tests share: rows and orders, how to make them, and other ways of telling what is so of them."""
 
 import contextlib
 import io
+import itertools
 from fractions import Fraction
 from unittest import mock
 
@@ -71,17 +72,55 @@ def rows_share_a_point(one, other):
     return any(stitches_share_a_point(*way, *another) for way in ways[0] for another in ways[1])
 
 
+def drawn_numbers():
+    """Numbers from 0 to 32767 without end, the same ones at each run."""
+    state = 12345
+    while True:
+        state = (state * 1103515245 + 12345) % 2147483648
+        yield state >> 16
+
+
 def drawn_rows(how_many):
     """Rows of 1 to 7 holes on a small field, the same ones at each run."""
-    state = 12345
-    rows = []
-    for number in range(how_many):
-        row = []
-        for place in range(2 * (1 + number % 7)):
-            state = (state * 1103515245 + 12345) % 2147483648
-            row.append((state >> 16) % 13 - 6)
-        rows.append(row)
-    return rows
+    numbers = drawn_numbers()
+    return [[next(numbers) % 13 - 6 for place in range(2 * (1 + k % 7))] for k in range(how_many)]
+
+
+def numbers_of(befores):
+    """Each shape's number, from a list for each shape of those that must come before it."""
+    return [sum(2 ** i for i in before) for before in befores]
+
+
+def choices_of_numbers(count):
+    """Every choice of what must come before what, for so many shapes."""
+    return [list(numbers) for numbers in itertools.product(*[range(2 ** j) for j in range(count)])]
+
+
+def drawn_tasks(how_many, least, most):
+    """Threads and numbers for from least to most shapes, of few threads and many, of few bits and many."""
+    drawn = drawn_numbers()
+    tasks = []
+    for k in range(how_many):
+        count = least + k % (most - least + 1)
+        kinds, share = 2 + next(drawn) % 3, next(drawn) % 7
+        threads = [next(drawn) % kinds for j in range(count)]
+        tasks.append((threads, numbers_of([[i for i in range(j) if next(drawn) % 10 < share] for j in range(count)])))
+    return tasks
+
+
+def orders_of(numbers):
+    """Every order in order, told another way than the program's: of all rows, those where no bit is broken."""
+    pairs = [(i, j) for j, number in enumerate(numbers) for i in range(j) if number // 2 ** i % 2]
+    orders = []
+    for row in itertools.permutations(range(len(numbers))):
+        if all(row.index(i) < row.index(j) for i, j in pairs):
+            orders.append(list(row))
+    return orders
+
+
+def changes_along(threads, row):
+    """How many changes a row of shapes has: its runs of one thread, less one."""
+    return len(list(itertools.groupby(threads[j] for j in row))) - 1
 
 
 class Untouchable(list):

@@ -1,4 +1,4 @@
-"""Embroidery: which rows of stitches touch, and which shapes must come before which.
+"""Embroidery: which rows of stitches touch, which shapes must come before which, and in which order to make them.
 
 The calls stand in threadrow.desk.
 """

@@ -1,4 +1,4 @@
-"""The desk's calls over rows of holes, told by turns as x and y."""
+"""The desk's calls over rows of holes, told by turns as x and y, and over orders of the shapes made of them."""
 
 MOST_IN_ROW = 60
 MOST_TOGETHER = 300
@@ -25,6 +25,14 @@ def over(rows):
     return [pairs] + [number_of(before) for before in befores]
 
 
+def order(threads, numbers):
+    """Answer how many changes the told order has, then that order; [-1] is a refusal."""
+    if is_task_refused(threads, numbers):
+        return [-1]
+    told = told_order(threads, numbers)
+    return [changes_of(told, threads)] + told
+
+
 def is_refused(row):
     """Tell whether a row has no hole or too many, or a hole out of bounds."""
     count = len(row) // 2
@@ -33,14 +41,25 @@ def is_refused(row):
 
 def is_drawing_refused(rows):
     """Tell whether shapes or their holes are too few or too many, or a hole is out of bounds."""
-    shape_count = len([row for row in rows if begins_shape(row)])
-    if shape_count < 1 or shape_count > MOST_SHAPES:
+    if is_shape_count_refused(len([row for row in rows if begins_shape(row)])):
         return True
     tails = [tail_of(row) for row in rows]
     counts = [len(tail) // 2 for tail in tails]
     if min(counts) < 1 or sum(counts) > MOST_TOGETHER:
         return True
     return not all([is_in_bounds(tail) for tail in tails])
+
+
+def is_task_refused(threads, numbers):
+    """Tell whether shapes are too few or too many, or don't have one number each, of lower-numbered shapes alone."""
+    if is_shape_count_refused(len(threads)) or len(numbers) != len(threads):
+        return True
+    return any([number >= 1 << j for j, number in enumerate(numbers)])
+
+
+def is_shape_count_refused(count):
+    """Tell whether there is no shape or more of them than the calls take."""
+    return count < 1 or count > MOST_SHAPES
 
 
 def begins_shape(row):
@@ -129,3 +148,60 @@ def side_of(place, line):
     start = line[0]
     end = line[1]
     return (end[0] - start[0]) * (place[1] - start[1]) - (end[1] - start[1]) * (place[0] - start[0])
+
+
+def told_order(threads, numbers):
+    """List the shapes' numbers in the first of the orders with the fewest changes."""
+    to_come = fewest_to_come(threads, numbers)
+    told = []
+    taken = 0
+    for place in range(len(threads)):
+        free = free_ones(taken, numbers)
+        counts = [changes_of(told[-1:] + [j], threads) + to_come[taken | 1 << j][threads[j]] for j in free]
+        # Of several with the least count, index finds the first, and the free ones stand by their numbers.
+        chosen = free[counts.index(min(counts))]
+        told.append(chosen)
+        taken = taken | 1 << chosen
+    return told
+
+
+def fewest_to_come(threads, numbers):
+    """Give for each set of taken shapes, by the last one's thread, the fewest changes still to come.
+
+    A set is told by a number, as what must come before a shape is.
+    """
+    full = (1 << len(threads)) - 1
+    to_come = {full: by_thread(threads, 0)}
+    # To take one more makes a set's number greater, so what is looked up stands there already.
+    for taken in range(full - 1, -1, -1):
+        # There is always a free one: nothing that is left can come before the lowest-numbered of them.
+        free = free_ones(taken, numbers)
+        counts = [to_come[taken | 1 << j][threads[j]] for j in free]
+        fewest = by_thread(threads, min(counts) + 1)
+        for j, count in zip(free, counts):
+            fewest[threads[j]] = min(fewest[threads[j]], count)
+        to_come[taken] = fewest
+    return to_come
+
+
+def by_thread(threads, count):
+    """Give a dict that has the same count for each thread."""
+    counts = {}
+    for thread in threads:
+        counts[thread] = count
+    return counts
+
+
+def free_ones(taken, numbers):
+    """List the shapes that aren't taken and can come next, the lowest-numbered first."""
+    return [j for j in range(len(numbers)) if (taken >> j) & 1 == 0 and is_ready(numbers[j], taken)]
+
+
+def is_ready(number, taken):
+    """Tell whether all that must come before a shape, as its number tells, are taken."""
+    return number & taken == number
+
+
+def changes_of(row, threads):
+    """Count the neighbours in a row of shapes that have different threads."""
+    return len([k for k in range(len(row) - 1) if threads[row[k]] != threads[row[k + 1]]])
