@@ -7,6 +7,9 @@ from fractions import Fraction
 from unittest import mock
 
 FARTHEST = 30000
+LARGEST = 4294967295
+
+THREADS = [0, 1, 2, 7, 254, 255]
 
 TURNS = [
     lambda x, y: (-y, x),
@@ -86,9 +89,42 @@ def drawn_rows(how_many):
     return [[next(numbers) % 13 - 6 for place in range(2 * (1 + k % 7))] for k in range(how_many)]
 
 
+def rows_of(shapes, threads=THREADS):
+    """The rows as over takes them, of shapes that are lists of rows without heads."""
+    rows = []
+    for number, shape in enumerate(shapes):
+        for place, row in enumerate(shape):
+            rows.append([-1 if place else threads[number % len(threads)]] + row)
+    return rows
+
+
+def drawings():
+    """140 drawings of 1 to 12 shapes of 1 to 3 rows, the same ones at each run."""
+    drawn = [row[:6] for row in drawn_rows(2000)]
+    made = []
+    for number in range(140):
+        drawing = []
+        for shape in range(1 + number % 12):
+            aside = shape * (number % 5)
+            rows = [drawn.pop() for place in range(1 + (number + shape) % 3)]
+            drawing.append([changed(row, lambda x, y: (x + aside, y - 2 * aside)) for row in rows])
+        made.append(drawing)
+    return made
+
+
 def numbers_of(befores):
     """Each shape's number, from a list for each shape of those that must come before it."""
     return [sum(2 ** i for i in before) for before in befores]
+
+
+def chain(count):
+    """The numbers of shapes that must each come right behind the one drawn before it."""
+    return numbers_of([[j - 1] if j else [] for j in range(count)])
+
+
+def full(count):
+    """The numbers of shapes that must each come behind all lower ones."""
+    return [2 ** j - 1 for j in range(count)]
 
 
 def choices_of_numbers(count):
@@ -143,3 +179,46 @@ def told_aside(call):
         used = [stack.enter_context(mock.patch("builtins." + name)) for name in names]
         call()
     return out.getvalue() + err.getvalue(), [name for name, way in zip(names, used) if way.called]
+
+
+class RefusedTasks:
+    """Tests of the threads and numbers that order and judge refuse, told to the test case's check_refused."""
+
+    def test_no_threads(self):
+        self.check_refused([], [])
+        self.check_refused([], [0])
+        self.check_refused([], [0] * 12)
+
+    def test_no_numbers(self):
+        self.check_refused([1], [])
+        self.check_refused([1] * 12, [])
+
+    def test_more_than_twelve(self):
+        for count in (13, 14, 29, 30):
+            self.check_refused([1] * count, [0] * count)
+            self.check_refused(list(range(count)), full(count))
+
+    def test_fewer_and_more_numbers_than_threads(self):
+        for count, other in itertools.permutations(range(31), 2):
+            self.check_refused([1] * count, [0] * other)
+        self.check_refused([1, 2, 1], [0, 1])
+        self.check_refused([1, 2], [0, 1, 2])
+
+    def test_a_number_too_great(self):
+        for count in (1, 2, 3, 7, 12):
+            for j in sorted({0, count // 2, count - 1}):
+                for number in (2 ** j, 2 ** j + 1, 2 ** (j + 1), 2 ** 31, LARGEST):
+                    for numbers in ([0] * count, full(count)):
+                        numbers[j] = number
+                        self.check_refused([1] * count, numbers)
+
+    def test_the_first_number_is_one(self):
+        self.check_refused([1], [1])
+        self.check_refused([1, 2, 1, 2], [1, 1, 0, 4])
+        self.check_refused([3] * 12, [1] + [0] * 11)
+
+    def test_a_number_that_names_its_own_shape_or_a_later_one(self):
+        self.check_refused([1, 2, 3], [0, 2, 0])
+        self.check_refused([1, 2, 3], [0, 4, 0])
+        self.check_refused([1, 2, 3], [2, 0, 0])
+        self.check_refused([1, 2, 3], [0, 3, 0])

@@ -4,12 +4,10 @@ import inspect
 import itertools
 import unittest
 
-from helpers import Untouchable, changes_along, choices_of_numbers, drawn_numbers, drawn_tasks, numbers_of, orders_of
-from helpers import told_aside
+from helpers import LARGEST, RefusedTasks, Untouchable, chain, changes_along, choices_of_numbers, drawn_numbers
+from helpers import drawn_tasks, full, orders_of, told_aside
 from threadrow import desk
 from threadrow.desk import order, over
-
-LARGEST = 4294967295
 
 FREE = [0] * 12
 
@@ -20,22 +18,9 @@ def answer_wanted(threads, numbers):
     return [changes_along(threads, best)] + best
 
 
-def chain(count):
-    """The numbers of shapes that must each come right behind the one drawn before it."""
-    return numbers_of([[j - 1] if j else [] for j in range(count)])
-
-
-def full(count):
-    """The numbers of shapes that must each come behind all lower ones."""
-    return [2 ** j - 1 for j in range(count)]
-
-
 class OrderCase(unittest.TestCase):
     def check(self, threads, numbers, answer):
         self.assertEqual(order(threads, numbers), answer, (threads, numbers))
-
-    def check_refused(self, threads, numbers):
-        self.check(threads, numbers, [-1])
 
 
 class Examples(OrderCase):
@@ -195,51 +180,16 @@ class Threads(OrderCase):
                 self.check(other, numbers, wanted)
 
 
-class Refusals(OrderCase):
-    def test_no_threads(self):
-        self.check_refused([], [])
-        self.check_refused([], [0])
-        self.check_refused([], [0] * 12)
+class Refusals(RefusedTasks, OrderCase):
+    def check_refused(self, threads, numbers):
+        self.check(threads, numbers, [-1])
 
-    def test_no_numbers(self):
-        self.check_refused([1], [])
-        self.check_refused([1] * 12, [])
 
-    def test_twelve_are_answered(self):
+class Answered(OrderCase):
+    def test_twelve(self):
         self.check([1] * 12, FREE, [0] + list(range(12)))
 
-    def test_more_than_twelve(self):
-        for count in (13, 14, 29, 30):
-            self.check_refused([1] * count, [0] * count)
-            self.check_refused(list(range(count)), full(count))
-
-    def test_fewer_and_more_numbers_than_threads(self):
-        for count, other in itertools.product(range(31), repeat=2):
-            if count != other:
-                self.check_refused([1] * count, [0] * other)
-        self.check_refused([1, 2, 1], [0, 1])
-        self.check_refused([1, 2], [0, 1, 2])
-
-    def test_a_number_too_great(self):
-        for count in (1, 2, 3, 7, 12):
-            for j in sorted({0, count // 2, count - 1}):
-                for number in (2 ** j, 2 ** j + 1, 2 ** (j + 1), 2 ** 31, LARGEST):
-                    for numbers in (FREE[:count], full(count)):
-                        numbers[j] = number
-                        self.check_refused([1] * count, numbers)
-
-    def test_the_first_number_is_one(self):
-        self.check_refused([1], [1])
-        self.check_refused([1, 2, 1, 2], [1, 1, 0, 4])
-        self.check_refused([3] * 12, [1] + [0] * 11)
-
-    def test_a_number_that_names_its_own_shape_or_a_later_one(self):
-        self.check_refused([1, 2, 3], [0, 2, 0])
-        self.check_refused([1, 2, 3], [0, 4, 0])
-        self.check_refused([1, 2, 3], [2, 0, 0])
-        self.check_refused([1, 2, 3], [0, 3, 0])
-
-    def test_the_greatest_that_each_may_have(self):
+    def test_the_greatest_number_that_each_may_have(self):
         for count in range(1, 13):
             for j in range(count):
                 numbers = [0] * count

@@ -4,21 +4,10 @@ import inspect
 import itertools
 import unittest
 
-from helpers import FARTHEST, TURNS, Untouchable, changed, drawn_rows, from_other_end, row_of, rows_share_a_point
-from helpers import told_aside
+from helpers import FARTHEST, TURNS, Untouchable, changed, drawings, drawn_rows, from_other_end, row_of, rows_of
+from helpers import rows_share_a_point, told_aside
 from threadrow import desk
 from threadrow.desk import over, touch
-
-THREADS = [0, 1, 2, 7, 254, 255]
-
-
-def rows_of(shapes, threads=THREADS):
-    """The rows as over takes them, of shapes that are lists of rows without heads."""
-    rows = []
-    for number, shape in enumerate(shapes):
-        for place, row in enumerate(shape):
-            rows.append([-1 if place else threads[number % len(threads)]] + row)
-    return rows
 
 
 def answer_wanted(shapes):
@@ -30,20 +19,6 @@ def answer_wanted(shapes):
             numbers[j] += 2 ** i
             pairs += 1
     return [pairs] + numbers
-
-
-def drawings():
-    """140 drawings of 1 to 12 shapes of 1 to 3 rows, the same ones at each run."""
-    drawn = [row[:6] for row in drawn_rows(2000)]
-    made = []
-    for number in range(140):
-        drawing = []
-        for shape in range(1 + number % 12):
-            aside = shape * (number % 5)
-            rows = [drawn.pop() for place in range(1 + (number + shape) % 3)]
-            drawing.append([changed(row, lambda x, y: (x + aside, y - 2 * aside)) for row in rows])
-        made.append(drawing)
-    return made
 
 
 def bar(height, width=10):

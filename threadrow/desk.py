@@ -33,6 +33,15 @@ def order(threads, numbers):
     return [changes_of(told, threads)] + told
 
 
+def judge(threads, numbers, tried):
+    """Answer how many changes the tried order has; [-3] if it's none, [-1] is a refusal of what it is tried on."""
+    if is_task_refused(threads, numbers):
+        return [-1]
+    if not is_order(tried, numbers):
+        return [-3]
+    return [changes_of(tried, threads)]
+
+
 def is_refused(row):
     """Tell whether a row has no hole or too many, or a hole out of bounds."""
     count = len(row) // 2
@@ -197,9 +206,21 @@ def free_ones(taken, numbers):
     return [j for j in range(len(numbers)) if (taken >> j) & 1 == 0 and is_ready(numbers[j], taken)]
 
 
+def is_order(row, numbers):
+    """Tell whether a row has each shape's number once, behind those of all that must come before it."""
+    if sorted(row) != list(range(len(numbers))):
+        return False
+    taken = 0
+    for j in row:
+        if not is_ready(numbers[j], taken):
+            return False
+        taken = taken | 1 << j
+    return True
+
+
 def is_ready(number, taken):
     """Tell whether all that must come before a shape, as its number tells, are taken."""
-    return number & taken == number
+    return (number & taken) == number
 
 
 def changes_of(row, threads):
